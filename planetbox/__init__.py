@@ -1,0 +1,1 @@
+"""Planetbox: gearboxes engaged step by step."""

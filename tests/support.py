@@ -1,0 +1,369 @@
+"""What several tests share: sample boxes, wrong values, and a count of ranks that owes nothing to the program."""
+
+import unittest
+from fractions import Fraction
+from functools import lru_cache
+from itertools import combinations
+from math import gcd
+
+from planetbox.errors import InvalidBox, InvalidEngaged
+
+PLANET = (3, (("planet", 0, 30, 1, 70, 2),), (("brake", 1), ("clutch", 0, 2)))
+CHAIN = (8, (), tuple(("clutch", k, k + 1) for k in range(7)) + (("brake", 7),))
+
+SAMPLES = {
+    "planet": PLANET,
+    "bare": (2, (), ()),
+    "bare of eight shafts": (8, (), ()),
+    "one clutch": (2, (), (("clutch", 0, 1),)),
+    "brakes on both shafts": (2, (), (("clutch", 0, 1), ("brake", 0), ("brake", 1))),
+    "equal devices": (
+        3,
+        (("planet", 0, 30, 1, 70, 2),),
+        (("brake", 1), ("brake", 1), ("clutch", 0, 2), ("clutch", 0, 2), ("clutch", 1, 2)),
+    ),
+    "driven by its gears": (
+        3,
+        (("mesh", 0, 20, 1, 40), ("inner", 1, 15, 2, 60)),
+        (("brake", 0), ("clutch", 0, 1), ("brake", 2)),
+    ),
+    "driven by its gears, no device": (3, (("mesh", 0, 20, 1, 40), ("inner", 1, 15, 2, 60)), ()),
+    "held by its gears": (2, (("mesh", 0, 20, 1, 40), ("inner", 0, 20, 1, 40)), (("clutch", 0, 1),)),
+    "held by its gears, no device": (2, (("mesh", 0, 20, 1, 40), ("inner", 0, 20, 1, 40)), ()),
+    "held by its gears, two shafts free": (
+        4,
+        (("mesh", 0, 20, 1, 40), ("inner", 1, 40, 0, 20)),
+        (("clutch", 0, 1), ("brake", 2), ("clutch", 2, 3)),
+    ),
+    "held by three meshing wheels": (
+        3,
+        (("mesh", 0, 20, 1, 20), ("mesh", 1, 20, 2, 20), ("mesh", 0, 20, 2, 20)),
+        (("brake", 0),),
+    ),
+    "a gear twice": (
+        3,
+        (("planet", 0, 30, 1, 70, 2), ("planet", 0, 60, 1, 140, 2)),
+        (("brake", 1), ("clutch", 0, 2), ("brake", 2)),
+    ),
+    "a gear that is a sum of others": (
+        4,
+        (("mesh", 0, 20, 1, 40), ("mesh", 1, 10, 2, 30), ("inner", 0, 10, 2, 60)),
+        (("clutch", 0, 3), ("brake", 3), ("clutch", 2, 3), ("clutch", 1, 2)),
+    ),
+    "no full set": (4, (), (("clutch", 0, 1), ("brake", 1), ("brake", 2))),
+    "a shaft that stands still": (
+        4,
+        (("planet", 0, 30, 1, 70, 2),),
+        (("brake", 3), ("brake", 1), ("clutch", 0, 2), ("clutch", 2, 3)),
+    ),
+    "two planet sets": (
+        5,
+        (("planet", 0, 31, 1, 73, 2), ("planet", 1, 29, 3, 61, 4)),
+        (("brake", 1), ("brake", 2), ("brake", 3), ("clutch", 0, 3), ("clutch", 2, 4), ("clutch", 1, 4)),
+    ),
+    "a device always": (
+        4,
+        (("planet", 0, 30, 1, 70, 2),),
+        (("clutch", 2, 3), ("brake", 1), ("clutch", 0, 1), ("brake", 0)),
+    ),
+    "chain of eight shafts": CHAIN,
+    "eight shafts, eight devices": (
+        8,
+        (("planet", 0, 197, 1, 199, 2), ("planet", 2, 191, 3, 193, 4), ("planet", 4, 179, 5, 181, 6)),
+        (("brake", 1), ("brake", 3), ("brake", 5), ("clutch", 6, 7))
+        + (("clutch", 1, 3), ("clutch", 3, 5), ("clutch", 0, 2), ("clutch", 2, 7)),
+    ),
+    "six gears in a row": (
+        8,
+        (("planet", 0, 199, 1, 197, 2), ("planet", 1, 193, 2, 191, 3), ("planet", 2, 181, 3, 179, 4))
+        + (("planet", 3, 173, 4, 167, 5), ("planet", 4, 163, 5, 157, 6), ("planet", 5, 151, 6, 149, 7)),
+        (("brake", 1), ("brake", 7), ("clutch", 1, 3), ("clutch", 2, 7), ("brake", 0)),
+    ),
+}
+
+WRONG_BOXES = (
+    None,
+    True,
+    0,
+    "box",
+    (),
+    [],
+    (3,),
+    list(PLANET),
+    (1, (), ()),
+    (9, (), ()),
+    (2, [], ()),
+    (2, (), []),
+    (2, (), (("clutch", 1, 0),)),
+    (3, (("planet", 0, 30, 1, 70, 1),), ()),
+    (2, (("mesh", 0, 5, 1, 20),), ()),
+)
+
+ODD_VALUES = (
+    None,
+    True,
+    False,
+    -1,
+    10**40,
+    -(10**40),
+    "",
+    "0",
+    "abc",
+    [],
+    [0],
+    [0, 1],
+    [[], [[]]],
+    (None,),
+    ("0",),
+    ((),),
+    ((0,),),
+    ([0],),
+    (((((((0,),),),),),),),
+)
+
+
+def numbers(seed):
+    """Yield the same numbers for the same seed on every Python."""
+    state = seed
+    while True:
+        state = (state * 6364136223846793005 + 1442695040888963407) % 2**64
+        yield state >> 33
+
+
+def made_box(seed):
+    """Make up a box with up to five shafts, three gears and five devices."""
+    stream = numbers(seed)
+
+    def below(limit):
+        return next(stream) % limit
+
+    def unlike(many, shafts):
+        left = list(range(shafts))
+        return [left.pop(below(len(left))) for _ in range(many)]
+
+    def gear(shafts):
+        teeth = [6 + below(5), 6 + below(5)]
+        if shafts > 2 and below(2):
+            sun, ring, carrier = unlike(3, shafts)
+            return ("planet", sun, teeth[0], ring, teeth[1], carrier)
+        first, second = unlike(2, shafts)
+        return (("mesh", "inner")[below(2)], first, teeth[0], second, teeth[1])
+
+    def device(shafts):
+        if below(3):
+            return ("clutch",) + tuple(sorted(unlike(2, shafts)))
+        return ("brake", below(shafts))
+
+    for _ in range(20):
+        below(2)
+    shafts = 2 + below(4)
+    gears = tuple(gear(shafts) for _ in range(below(4)))
+    return (shafts, gears, tuple(device(shafts) for _ in range(below(6))))
+
+
+SAMPLES.update({f"made from {seed}": made_box(seed) for seed in range(1, 41)})
+
+
+def part_count(box):
+    return len(box[1]) + len(box[2])
+
+
+def row_of(box, part):
+    """The coefficients of a part, as point 4 words them."""
+    entry = (box[1] + box[2])[part]
+    row = [0] * box[0]
+    if entry[0] == "brake":
+        row[entry[1]] = 1
+    elif entry[0] == "clutch":
+        row[entry[1]], row[entry[2]] = 1, -1
+    elif entry[0] == "planet":
+        row[entry[1]], row[entry[3]], row[entry[5]] = entry[2], entry[4], -(entry[2] + entry[4])
+    else:
+        row[entry[1]] = entry[2]
+        row[entry[3]] = entry[4] if entry[0] == "mesh" else -entry[4]
+    return tuple(row)
+
+
+def rows_of(box, engaged):
+    gears = len(box[1])
+    return tuple(row_of(box, part) for part in (*range(gears), *(gears + device for device in engaged)))
+
+
+@lru_cache(maxsize=None)
+def rank(rows):
+    left = [[Fraction(entry) for entry in row] for row in rows]
+    count = 0
+    while left:
+        row = left.pop()
+        place = next((at for at, entry in enumerate(row) if entry), None)
+        if place is not None:
+            count += 1
+            left = [[x - other[place] / row[place] * y for x, y in zip(other, row)] for other in left]
+    return count
+
+
+def freedom_of(box, engaged):
+    return box[0] - rank(rows_of(box, engaged))
+
+
+def kind_of(box, engaged):
+    rows = rows_of(box, engaged)
+    if rank(rows + (unit(box, 0),)) == rank(rows):
+        return "held"
+    return "driven" if rank(rows) == box[0] - 1 else "loose"
+
+
+def unit(box, shaft):
+    return tuple(int(other == shaft) for other in range(box[0]))
+
+
+def needless_of(box, engaged):
+    free = freedom_of(box, engaged)
+    return tuple(d for d in engaged if freedom_of(box, less(engaged, d)) == free)
+
+
+def is_full_of(box, engaged):
+    return kind_of(box, engaged) == "driven" and needless_of(box, engaged) == ()
+
+
+@lru_cache(maxsize=None)
+def full_sets_of(box):
+    return sorted(engaged for engaged in engaged_sets(box) if is_full_of(box, engaged))
+
+
+def less(engaged, device):
+    return tuple(other for other in engaged if other != device)
+
+
+def more(engaged, device):
+    return tuple(sorted(engaged + (device,)))
+
+
+@lru_cache(maxsize=None)
+def engaged_sets(box):
+    """All engaged sets of a box, the smaller ones first."""
+    many = len(box[2])
+    return [choice for size in range(many + 1) for choice in combinations(range(many), size)]
+
+
+def cases(*kinds):
+    """All pairs of a sample box and an engaged set of it that is of one of the kinds (of any, if none is named)."""
+    found = []
+    for box in SAMPLES.values():
+        found += [(box, engaged) for engaged in engaged_sets(box) if not kinds or kind_of(box, engaged) in kinds]
+    return found
+
+
+def full_cases():
+    """All pairs of a sample box and a full set of it."""
+    return [(box, engaged) for box in SAMPLES.values() for engaged in full_sets_of(box)]
+
+
+def dot(row, speeds):
+    return sum(x * y for x, y in zip(row, speeds))
+
+
+def obeys(box, engaged, speeds):
+    return all(dot(row, speeds) == 0 for row in rows_of(box, engaged))
+
+
+def divisor(row):
+    return gcd(*row)
+
+
+def sum_of(box, weights):
+    """The sum of weights, shaft by shaft."""
+    total = [0] * box[0]
+    for part, weight in enumerate(weights):
+        for shaft, entry in enumerate(row_of(box, part)):
+            total[shaft] += weight * entry
+    return tuple(total)
+
+
+def wrong_engaged(box):
+    """Values that are not engaged sets of the box."""
+    many = len(box[2])
+    found = list(ODD_VALUES) + [0, (many,), (-1,), (many + 5,), (True,), (False,), [*range(many)]]
+    if many:
+        found += [(0, 0), (0, many), (0, "1"), (0, None), (0, [1])]
+    if many > 1:
+        found += [(1, 0), (0, 1, 1), (0, 1, 0), (False, 1), (0, True)]
+    return found
+
+
+def wrong_shafts(box):
+    """Values that are not shafts other than the input."""
+    return list(ODD_VALUES) + [0, box[0], box[0] + 1, (), (1,), "1"]
+
+
+def copied(box):
+    """An equal box that is made anew."""
+    return (box[0], tuple(tuple(list(gear)) for gear in box[1]), tuple(tuple(list(device)) for device in box[2]))
+
+
+class BoxTest(unittest.TestCase):
+    """Checks that the tests of all modules use."""
+
+    def fails(self, error, function, *arguments):
+        """Check that the call raises an error of exactly this class, changes nothing, and return the error."""
+        before = repr(arguments)
+        with self.assertRaises(error, msg=f"{function.__name__}{before}") as caught:
+            function(*arguments)
+        self.assertIs(type(caught.exception), error)
+        self.assertEqual(repr(arguments), before)
+        return caught.exception
+
+    def fails_with(self, error, name, value, function, *arguments):
+        """Check the error, and that it keeps the value in the attribute of this name."""
+        caught = self.fails(error, function, *arguments)
+        kept = getattr(caught, name)
+        self.assertIs(type(kept), type(value))
+        self.assertEqual(repr(kept), repr(value))
+
+    def is_integer_tuple(self, value, many):
+        """Check that the value is a tuple of so many integers."""
+        self.assertIs(type(value), tuple)
+        self.assertEqual([type(entry) for entry in value], [int] * many)
+
+    def is_moving(self, box, engaged, value):
+        """Check that the value is a motion of the engaged set."""
+        self.is_integer_tuple(value, box[0])
+        self.assertTrue(obeys(box, engaged, value), (box, engaged, value))
+
+    def are_weights_of(self, box, engaged, value):
+        """Check that the value is weights for the engaged set."""
+        self.is_integer_tuple(value, part_count(box))
+        gears = len(box[1])
+        for device in range(len(box[2])):
+            if device not in engaged:
+                self.assertEqual(value[gears + device], 0)
+
+    def checks_box_and_engaged(self, function, *others):
+        """Check that InvalidBox comes first and InvalidEngaged second, whatever the other arguments are."""
+        for wrong in WRONG_BOXES:
+            self.fails(InvalidBox, function, wrong, (0,), *others)
+            self.fails(InvalidBox, function, wrong, None, *others)
+        for box in (PLANET, CHAIN, SAMPLES["bare"], SAMPLES["held by its gears"]):
+            for wrong in wrong_engaged(box):
+                self.fails(InvalidEngaged, function, box, wrong, *others)
+
+    def gives_the_same_again(self, function, calls):
+        """Check that equal arguments give the same result, whatever is called in between."""
+        first = [function(*arguments) for arguments in calls]
+        kept = repr(first)
+        again = [function(copied(box), *others) for box, *others in reversed(calls)]
+        self.assertEqual(repr(again[::-1]), kept)
+        self.assertEqual(repr(first), kept)
+
+    def gives_new_lists(self, function, *arguments):
+        """Check that each returned list is a new one, which no later call changes."""
+        first = function(*arguments)
+        self.assertIs(type(first), list)
+        kept = list(first)
+        second = function(*arguments)
+        self.assertIsNot(first, second)
+        second.append("spoilt")
+        second.reverse()
+        self.assertEqual(first, kept)
+        first.clear()
+        self.assertEqual(function(*arguments), kept)

@@ -1,0 +1,77 @@
+"""The examples of the document, word for word."""
+
+import doctest
+import importlib
+import unittest
+
+EXAMPLES = """
+>>> from planetbox.boxes import is_box
+>>> is_box((2, (), (('clutch', 1, 0),)))
+False
+
+>>> from planetbox.boxes import is_engaged
+>>> box = (3, (('planet', 0, 30, 1, 70, 2),), (('brake', 1), ('clutch', 0, 2)))
+>>> is_engaged(box, (1, 0))
+False
+
+>>> from planetbox.boxes import equation
+>>> box = (3, (('planet', 0, 30, 1, 70, 2),), (('brake', 1), ('clutch', 0, 2)))
+>>> equation(box, 0)
+(30, 70, -100)
+
+>>> from planetbox.motions import is_motion
+>>> box = (3, (('planet', 0, 30, 1, 70, 2),), (('brake', 1), ('clutch', 0, 2)))
+>>> is_motion(box, (0,), (20, 0, 6))
+True
+
+>>> from planetbox.motions import freedom
+>>> box = (3, (('planet', 0, 30, 1, 70, 2),), (('brake', 1), ('clutch', 0, 2)))
+>>> freedom(box, ())
+2
+
+>>> from planetbox.kinds import kind
+>>> box = (3, (('planet', 0, 30, 1, 70, 2),), (('brake', 1), ('clutch', 0, 2)))
+>>> [kind(box, ()), kind(box, (0,)), kind(box, (0, 1))]
+['loose', 'driven', 'held']
+
+>>> from planetbox.kinds import motion
+>>> box = (3, (('planet', 0, 30, 1, 70, 2),), (('brake', 1), ('clutch', 0, 2)))
+>>> motion(box, (0,))
+(10, 0, 3)
+
+>>> from planetbox.kinds import two_motions
+>>> box = (3, (('planet', 0, 30, 1, 70, 2),), (('brake', 1), ('clutch', 0, 2)))
+>>> two_motions(box, ())[1][0]
+0
+"""
+
+FUNCTIONS = {
+    "boxes": ["is_box", "is_engaged", "equation"],
+    "motions": ["is_motion", "freedom"],
+    "kinds": ["kind", "motion", "two_motions"],
+}
+
+
+class ExamplesTest(unittest.TestCase):
+    def test_each_example(self):
+        blocks = EXAMPLES.strip().split("\n\n")
+        self.assertEqual(len(blocks), sum(len(names) for names in FUNCTIONS.values()))
+        for block in blocks:
+            with self.subTest(block=block):
+                example = doctest.DocTestParser().get_doctest(block + "\n", {}, "example", None, 0)
+                said = []
+                outcome = doctest.DocTestRunner().run(example, out=said.append)
+                self.assertEqual(outcome.failed, 0, "".join(said))
+                self.assertGreater(outcome.attempted, 1)
+
+
+class InterfaceTest(unittest.TestCase):
+    def test_each_function_is_defined_in_its_file(self):
+        for file, names in FUNCTIONS.items():
+            module = importlib.import_module(f"planetbox.{file}")
+            for name in names:
+                self.assertEqual(getattr(module, name).__module__, f"planetbox.{file}", name)
+
+
+if __name__ == "__main__":
+    unittest.main()
