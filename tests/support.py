@@ -11,6 +11,15 @@ from planetbox.errors import InvalidBox, InvalidEngaged
 PLANET = (3, (("planet", 0, 30, 1, 70, 2),), (("brake", 1), ("clutch", 0, 2)))
 CHAIN = (8, (), tuple(("clutch", k, k + 1) for k in range(7)) + (("brake", 7),))
 
+
+def ring(teeth, others):
+    """Six wheels inside rings around a circle of shafts.
+
+    They move only if both products of all teeth are equal: exact numbers tell them from products that differ by 1.
+    """
+    return tuple(("inner", k, teeth[k], (k + 1) % 6, others[k]) for k in range(6))
+
+
 SAMPLES = {
     "planet": PLANET,
     "bare": (2, (), ()),
@@ -79,6 +88,14 @@ SAMPLES = {
         + (("planet", 3, 173, 4, 167, 5), ("planet", 4, 163, 5, 157, 6), ("planet", 5, 151, 6, 149, 7)),
         (("brake", 1), ("brake", 7), ("clutch", 1, 3), ("clutch", 2, 7), ("brake", 0)),
     ),
+    "great speeds": (
+        8,
+        (("planet", 1, 177, 7, 179, 4), ("planet", 0, 184, 4, 183, 6), ("planet", 1, 179, 2, 200, 0))
+        + (("planet", 0, 177, 7, 154, 5), ("planet", 3, 187, 2, 191, 1), ("planet", 3, 186, 7, 167, 2)),
+        (("brake", 7), ("brake", 1), ("clutch", 1, 7), ("clutch", 3, 5)),
+    ),
+    "held by a hair": (6, ring((101, 103, 149, 106, 157, 113), (181, 47, 123, 161, 143, 121)), (("brake", 3),)),
+    "driven by a ring": (6, ring((101, 103, 149, 106, 157, 113), (157, 101, 106, 113, 103, 149)), (("brake", 3),)),
 }
 
 WRONG_BOXES = (

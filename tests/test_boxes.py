@@ -104,6 +104,14 @@ class IsBoxTest(BoxTest):
             for i in range(-2, 10):
                 self.assertIs(is_box((shafts, (), (("brake", i),))), 0 <= i < shafts)
 
+    def test_shafts_and_teeth_too_many(self):
+        self.rejects((4, (), (("clutch", 0, 1, 2),)))
+        self.rejects((4, (), (("brake", 0, 1),)))
+        self.rejects((4, (("mesh", 0, 20, 1, 40, 2, 60),), ()))
+        self.rejects((4, (("inner", 0, 20, 1, 40, 2, 60),), ()))
+        self.rejects((4, (("planet", 0, 20, 1, 40, 2, 60),), ()))
+        self.rejects((4, (("planet", 0, 20, 1, 40, 2, 60, 3),), ()))
+
     def test_equal_devices_and_gears(self):
         self.accepts((2, (), (("clutch", 0, 1), ("clutch", 0, 1), ("brake", 0), ("brake", 0))))
         self.accepts((2, (("mesh", 0, 20, 1, 40), ("mesh", 0, 20, 1, 40)), ()))
@@ -141,7 +149,7 @@ class IsBoxTest(BoxTest):
             if len(path) == 1:
                 wrongs = [(*node, extra) for extra in (0, None, "x", (), [], (0,), list(node[0]))]
             else:
-                wrongs = [(*node, extra) for extra in (0, 2, 30, None, "x", ())]
+                wrongs = [(*node, extra) for extra in (0, 1, 2, 30, None, "x", ())]
                 wrongs += [node[:-1], node[1:], (), (None, *node), (0, *node)]
             for wrong in wrongs:
                 self.rejects(replaced(VARIED, path, wrong))

@@ -43,12 +43,82 @@ True
 >>> box = (3, (('planet', 0, 30, 1, 70, 2),), (('brake', 1), ('clutch', 0, 2)))
 >>> two_motions(box, ())[1][0]
 0
+
+>>> from planetbox.weights import weighted_sum
+>>> box = (3, (('planet', 0, 30, 1, 70, 2),), (('brake', 1), ('clutch', 0, 2)))
+>>> weighted_sum(box, (0, 1), (1, -70, -100))
+(-70, 0, 0)
+
+>>> from planetbox.weights import held_weights
+>>> box = (3, (('planet', 0, 30, 1, 70, 2),), (('brake', 1), ('clutch', 0, 2)))
+>>> len(held_weights(box, (0, 1)))
+3
+
+>>> from planetbox.weights import shaft_weights
+>>> box = (3, (('planet', 0, 30, 1, 70, 2),), (('brake', 1), ('clutch', 0, 2)))
+>>> len(shaft_weights(box, (0,), 2))
+3
+
+>>> from planetbox.full import needless
+>>> box = (2, (), (('clutch', 0, 1), ('brake', 0), ('brake', 1)))
+>>> needless(box, (0, 1, 2))
+(0, 1, 2)
+
+>>> from planetbox.full import is_full
+>>> box = (3, (('planet', 0, 30, 1, 70, 2),), (('brake', 1), ('clutch', 0, 2)))
+>>> is_full(box, (1,))
+True
+
+>>> from planetbox.full import full_sets
+>>> box = (3, (('planet', 0, 30, 1, 70, 2),), (('brake', 1), ('clutch', 0, 2)))
+>>> full_sets(box)
+[(0,), (1,)]
+
+>>> from planetbox.full import roles
+>>> box = (3, (('planet', 0, 30, 1, 70, 2),), (('brake', 1), ('clutch', 0, 2)))
+>>> roles(box)
+['sometimes', 'sometimes']
+
+>>> from planetbox.freed import freed_motion
+>>> box = (3, (('planet', 0, 30, 1, 70, 2),), (('brake', 1), ('clutch', 0, 2)))
+>>> freed_motion(box, (0,), 0)
+(0, 10, 7)
+
+>>> from planetbox.freed import loads
+>>> box = (3, (('planet', 0, 30, 1, 70, 2),), (('brake', 1), ('clutch', 0, 2)))
+>>> loads(box, (0,), 2)
+[0]
+
+>>> from planetbox.shifts import swaps
+>>> box = (3, (('planet', 0, 30, 1, 70, 2),), (('brake', 1), ('clutch', 0, 2)))
+>>> swaps(box, (0,))
+[(1,)]
+
+>>> from planetbox.shifts import shift
+>>> box = (3, (('planet', 0, 30, 1, 70, 2),), (('brake', 1), ('clutch', 0, 2)))
+>>> shift(box, (0,), (1,))
+[(0,), (1,)]
+
+>>> from planetbox.extending import complete
+>>> box = (3, (('planet', 0, 30, 1, 70, 2),), (('brake', 1), ('clutch', 0, 2)))
+>>> complete(box, ())
+(0,)
+
+>>> from planetbox.extending import thin
+>>> box = (2, (), (('clutch', 0, 1), ('brake', 1)))
+>>> thin(box, (0,))
+(0,)
 """
 
 FUNCTIONS = {
     "boxes": ["is_box", "is_engaged", "equation"],
     "motions": ["is_motion", "freedom"],
     "kinds": ["kind", "motion", "two_motions"],
+    "weights": ["weighted_sum", "held_weights", "shaft_weights"],
+    "full": ["needless", "is_full", "full_sets", "roles"],
+    "freed": ["freed_motion", "loads"],
+    "shifts": ["swaps", "shift"],
+    "extending": ["complete", "thin"],
 }
 
 

@@ -32,6 +32,10 @@ class KindTest(BoxTest):
         self.assertEqual(kind((2, (), ()), ()), "loose")
         self.assertEqual(kind(CHAIN, (7,)), "loose")
 
+    def test_exact_numbers(self):
+        self.assertEqual(kind(SAMPLES["held by a hair"], ()), "held")
+        self.assertEqual(kind(SAMPLES["driven by a ring"], ()), "driven")
+
     def test_driven_with_an_output_at_rest(self):
         box = (2, (), (("brake", 1),))
         self.assertEqual([kind(box, (0,)), motion(box, (0,))], ["driven", (1, 0)])

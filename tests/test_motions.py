@@ -93,6 +93,10 @@ class FreedomTest(BoxTest):
         self.assertEqual([freedom(CHAIN, tuple(range(many))) for many in range(9)], [8, 7, 6, 5, 4, 3, 2, 1, 0])
         self.assertEqual(freedom(SAMPLES["six gears in a row"], ()), 2)
 
+    def test_exact_numbers(self):
+        self.assertEqual(freedom(SAMPLES["held by a hair"], ()), 0)
+        self.assertEqual(freedom(SAMPLES["driven by a ring"], ()), 1)
+
     def test_gears_that_differ_by_one_tooth(self):
         gears = (("planet", 0, 199, 1, 200, 2), ("planet", 0, 200, 1, 199, 2))
         self.assertEqual(freedom((3, gears, ()), ()), 1)
