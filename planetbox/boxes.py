@@ -15,11 +15,21 @@ def is_integer(value):
     return isinstance(value, int) and not isinstance(value, bool)
 
 
+def is_within(value, least, most):
+    """Tell whether the value is an integer that is neither too small nor too great."""
+    return is_integer(value) and least <= value <= most
+
+
 def are_integers(value, many):
     """Tell whether the value is a tuple of so many integers."""
     if not isinstance(value, tuple) or len(value) != many:
         return False
     return all([is_integer(entry) for entry in value])
+
+
+def are_within(value, many, least, most):
+    """Tell whether the value is a tuple of so many integers, each neither too small nor too great."""
+    return are_integers(value, many) and all([least <= entry <= most for entry in value])
 
 
 def is_number_of(value, many):
@@ -36,7 +46,7 @@ def are_unlike_shafts(values, shafts):
 
 def are_teeth(values):
     """Tell whether the values are numbers of teeth."""
-    return all([is_integer(value) and FEWEST_TEETH <= value <= MOST_TEETH for value in values])
+    return all([is_within(value, FEWEST_TEETH, MOST_TEETH) for value in values])
 
 
 def is_wheel_pair(gear, shafts):
@@ -78,7 +88,7 @@ def is_box(value):
     if not isinstance(value, tuple) or len(value) != 3:
         return False
     shafts, gears, devices = value
-    if not is_integer(shafts) or not FEWEST_SHAFTS <= shafts <= MOST_SHAFTS:
+    if not is_within(shafts, FEWEST_SHAFTS, MOST_SHAFTS):
         return False
     if not isinstance(gears, tuple) or len(gears) > MOST_GEARS:
         return False

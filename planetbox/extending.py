@@ -14,7 +14,7 @@ def filled_up(box, engaged, devices):
     """Return the engaged set with each of the devices, in their order, that leaves it part of a full set.
 
     All full sets have equally many devices, and what one device bars, no later one can make good; so the
-    first device that fits is always right, and the full set that is reached is the least.
+    first device that fits is always right. If the devices ascend, the full set that is reached is the least.
     """
     filled = engaged
     for device in devices:
@@ -24,14 +24,19 @@ def filled_up(box, engaged, devices):
     return filled
 
 
+def completed(box, engaged, devices):
+    """Return the full set that filling up with the devices leads to, or None if it leads to none."""
+    filled = filled_up(box, engaged, devices)
+    if not is_known_full(box, filled):
+        return None
+    return filled
+
+
 def complete(box, engaged):
     """Return the least full set that contains the engaged set, or None."""
     require_engaged(box, engaged)
     # A held set stays held, and a needless device needless, so nothing is engaged in such a set: it is not full.
-    filled = filled_up(box, engaged, released_devices(box, engaged))
-    if not is_known_full(box, filled):
-        return None
-    return filled
+    return completed(box, engaged, released_devices(box, engaged))
 
 
 def thin(box, engaged):

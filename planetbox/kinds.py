@@ -36,6 +36,11 @@ def motion_at_rest(box, leads):
     return tuple(solution(leads, first_free_shaft(box, leads), box[0]))
 
 
+def known_motion(box, engaged):
+    """Return the motion of what is known to be a driven set."""
+    return tuple(solution(active_leads(box, engaged), 0, box[0]))
+
+
 def kind(box, engaged):
     """Return "held", "loose" or "driven"."""
     require_engaged(box, engaged)
@@ -46,7 +51,7 @@ def motion(box, engaged):
     """Return the motion of a driven set."""
     require_engaged(box, engaged)
     require_driven(box, engaged)
-    return tuple(solution(active_leads(box, engaged), 0, box[0]))
+    return known_motion(box, engaged)
 
 
 def two_motions(box, engaged):

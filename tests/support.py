@@ -3,7 +3,7 @@
 import unittest
 from fractions import Fraction
 from functools import lru_cache
-from itertools import combinations
+from itertools import combinations, product
 from math import gcd
 
 from planetbox.errors import InvalidBox, InvalidEngaged
@@ -248,6 +248,11 @@ def full_sets_of(box):
     return sorted(engaged for engaged in engaged_sets(box) if is_full_of(box, engaged))
 
 
+def is_swap(first, second):
+    """Whether the second set is made from the first by releasing one device and engaging another one."""
+    return len(set(first) - set(second)) == 1 and len(set(second) - set(first)) == 1
+
+
 def less(engaged, device):
     return tuple(other for other in engaged if other != device)
 
@@ -313,6 +318,43 @@ def wrong_shafts(box):
     return list(ODD_VALUES) + [0, box[0], box[0] + 1, (), (1,), "1"]
 
 
+def not_full_cases():
+    """All pairs of a sample box and an engaged set of it that is not full."""
+    return [(box, engaged) for box, engaged in cases() if not is_full_of(box, engaged)]
+
+
+def wrong_numbers(least, most):
+    """Values that are not integers from the least to the most."""
+    inside = [value for value in ODD_VALUES if type(value) is int]
+    return [value for value in ODD_VALUES if value not in inside or not least <= value <= most] + [
+        least - 1,
+        most + 1,
+        least - 1000,
+        most * 1000 + 1000,
+        str(most),
+        (least,),
+        [most],
+    ]
+
+
+def wrong_rows(many, least, most):
+    """Values that are not tuples of so many integers from the least to the most."""
+    right = (least,) * many
+    found = [value for value in ODD_VALUES if value != right] + [list(right), str(least) * many, many, least]
+    found += [right + (least,), right + (None,)]
+    if many:
+        found += [right[1:], (most,) * (many - 1), (right,), [right]]
+    for place in range(many):
+        for wrong in (least - 1, most + 1, 10**30, -(10**30), True, False, None, str(most), (), (least,), [least]):
+            found.append(right[:place] + (wrong,) + right[place + 1 :])
+    return found
+
+
+def a_few(values):
+    """Some of the values, from all parts of the list."""
+    return values[:: max(1, len(values) // 3)]
+
+
 def copied(box):
     """An equal box that is made anew."""
     return (box[0], tuple(tuple(list(gear)) for gear in box[1]), tuple(tuple(list(device)) for device in box[2]))
@@ -363,6 +405,22 @@ class BoxTest(unittest.TestCase):
         for box in (PLANET, CHAIN, SAMPLES["bare"], SAMPLES["held by its gears"]):
             for wrong in wrong_engaged(box):
                 self.fails(InvalidEngaged, function, box, wrong, *others)
+
+    def checks_order(self, function, right, *steps):
+        """Check that the errors come in this order.
+
+        Each step names an error, the place of an argument, and values there that raise it. The arguments in front
+        of it are right, those behind it may be wrong as the later steps tell.
+        """
+        for at, (error, place, wrongs) in enumerate(steps):
+            behind = {}
+            for _, other, values in steps[at + 1 :]:
+                if other != place:
+                    behind.setdefault(other, [right[other]]).extend(a_few(values))
+            for wrong in wrongs:
+                for values in product(*behind.values()):
+                    arguments = dict(enumerate(right)) | dict(zip(behind, values)) | {place: wrong}
+                    self.fails(error, function, *[arguments[k] for k in range(len(right))])
 
     def gives_the_same_again(self, function, calls):
         """Check that equal arguments give the same result, whatever is called in between."""

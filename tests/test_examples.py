@@ -108,6 +108,50 @@ True
 >>> box = (2, (), (('clutch', 0, 1), ('brake', 1)))
 >>> thin(box, (0,))
 (0,)
+
+>>> from planetbox.prices import cheapest
+>>> box = (3, (('planet', 0, 30, 1, 70, 2),), (('brake', 1), ('clutch', 0, 2)))
+>>> cheapest(box, (5, 3))
+(1,)
+
+>>> from planetbox.prices import cheaper_swap
+>>> box = (3, (('planet', 0, 30, 1, 70, 2),), (('brake', 1), ('clutch', 0, 2)))
+>>> cheaper_swap(box, (0,), (5, 3))
+(1,)
+
+>>> from planetbox.prices import falling_shift
+>>> box = (3, (('planet', 0, 30, 1, 70, 2),), (('brake', 1), ('clutch', 0, 2)))
+>>> falling_shift(box, (0,), (5, 3))
+[(0,), (1,)]
+
+>>> from planetbox.speeds import speed
+>>> box = (3, (('planet', 0, 30, 1, 70, 2),), (('brake', 1), ('clutch', 0, 2)))
+>>> speed(box, (0,), 2)
+(3, 10)
+
+>>> from planetbox.speeds import speeds
+>>> box = (3, (('planet', 0, 30, 1, 70, 2),), (('brake', 1), ('clutch', 0, 2)))
+>>> speeds(box)
+[((3, 10), [(0,)]), ((1, 1), [(1,)])]
+
+>>> from planetbox.turning import angles
+>>> box = (3, (('planet', 0, 30, 1, 70, 2),), (('brake', 1), ('clutch', 0, 2)))
+>>> angles(box, (0,), 5)
+((5, 1), (0, 1), (3, 2))
+
+>>> from planetbox.turning import first_return
+>>> box = (3, (('planet', 0, 30, 1, 70, 2),), (('brake', 1), ('clutch', 0, 2)))
+>>> first_return(box, (0,))
+10
+
+>>> from planetbox.building import reversed_box
+>>> box = (3, (('planet', 0, 30, 1, 70, 2),), (('brake', 1), ('clutch', 0, 2)))
+>>> reversed_box(box)
+(3, (('planet', 2, 30, 1, 70, 0),), (('brake', 1), ('clutch', 0, 2)))
+
+>>> from planetbox.building import joined
+>>> joined((2, (('mesh', 0, 20, 1, 40),), ()), (2, (), (('clutch', 0, 1),)))
+(3, (('mesh', 0, 20, 1, 40),), (('clutch', 1, 2),))
 """
 
 FUNCTIONS = {
@@ -119,6 +163,10 @@ FUNCTIONS = {
     "freed": ["freed_motion", "loads"],
     "shifts": ["swaps", "shift"],
     "extending": ["complete", "thin"],
+    "prices": ["cheapest", "cheaper_swap", "falling_shift"],
+    "speeds": ["speed", "speeds"],
+    "turning": ["angles", "first_return"],
+    "building": ["reversed_box", "joined"],
 }
 
 

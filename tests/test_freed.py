@@ -7,12 +7,8 @@ from planetbox.freed import freed_motion, loads
 from planetbox.full import is_full
 from planetbox.weights import shaft_weights
 from tests.support import CHAIN, ODD_VALUES, PLANET, SAMPLES, BoxTest
-from tests.support import cases, divisor, dot, full_cases, is_full_of, less, more, rank, row_of, rows_of
+from tests.support import divisor, dot, full_cases, less, more, not_full_cases, rank, row_of, rows_of
 from tests.support import unit, wrong_shafts
-
-
-def not_full():
-    return [(box, engaged) for box, engaged in cases() if not is_full_of(box, engaged)]
 
 
 class FreedMotionTest(BoxTest):
@@ -37,7 +33,7 @@ class FreedMotionTest(BoxTest):
         self.assertEqual(freed_motion(CHAIN, (0, 1, 2, 3, 4, 5, 6), 4), (0, 0, 0, 0, 0, 1, 1, 1))
 
     def test_sets_that_are_not_full(self):
-        for box, engaged in not_full():
+        for box, engaged in not_full_cases():
             for device in (*engaged[:1], *engaged[-1:], 0, 9, None, True, [0]):
                 self.fails(NotFull, freed_motion, box, engaged, device)
 
@@ -90,7 +86,7 @@ class LoadsTest(BoxTest):
         self.assertEqual(loads(SAMPLES["driven by its gears"], (), 1), [])
 
     def test_sets_that_are_not_full(self):
-        for box, engaged in not_full():
+        for box, engaged in not_full_cases():
             for shaft in (1, 0, box[0], None, True, [1]):
                 self.fails(NotFull, loads, box, engaged, shaft)
 

@@ -5,16 +5,7 @@ import unittest
 from planetbox.errors import InvalidEngaged, NotFull
 from planetbox.shifts import shift, swaps
 from tests.support import CHAIN, PLANET, SAMPLES, BoxTest
-from tests.support import cases, full_cases, full_sets_of, is_full_of, wrong_engaged
-
-
-def is_swap(first, second):
-    """Whether the second set is made from the first by releasing one device and engaging another one."""
-    return len(set(first) - set(second)) == 1 and len(set(second) - set(first)) == 1
-
-
-def not_full():
-    return [(box, engaged) for box, engaged in cases() if not is_full_of(box, engaged)]
+from tests.support import full_cases, full_sets_of, is_swap, not_full_cases, wrong_engaged
 
 
 class SwapsTest(BoxTest):
@@ -33,7 +24,7 @@ class SwapsTest(BoxTest):
         self.assertEqual(len(swaps(CHAIN, (0, 1, 2, 3, 4, 5, 6))), 7)
 
     def test_sets_that_are_not_full(self):
-        for box, engaged in not_full():
+        for box, engaged in not_full_cases():
             self.fails(NotFull, swaps, box, engaged)
 
     def test_errors(self):
@@ -73,7 +64,7 @@ class ShiftTest(BoxTest):
             self.assertEqual(shift(box, engaged, engaged), [engaged])
 
     def test_sets_that_are_not_full(self):
-        for box, engaged in not_full():
+        for box, engaged in not_full_cases():
             self.fails(NotFull, shift, box, engaged, engaged)
             self.fails(NotFull, shift, box, engaged, ())
             for full in full_sets_of(box)[:2]:
@@ -81,7 +72,7 @@ class ShiftTest(BoxTest):
                 self.fails(NotFull, shift, box, full, engaged)
 
     def test_both_sets_are_checked_before_either_is_found_not_full(self):
-        for box, engaged in (*not_full()[:40], (PLANET, ()), (PLANET, (0,)), (PLANET, (0, 1)), (CHAIN, (0,))):
+        for box, engaged in (*not_full_cases()[:40], (PLANET, ()), (PLANET, (0,)), (PLANET, (0, 1)), (CHAIN, (0,))):
             for wrong in wrong_engaged(box):
                 self.fails(InvalidEngaged, shift, box, engaged, wrong)
                 self.fails(InvalidEngaged, shift, box, wrong, engaged)

@@ -1,0 +1,140 @@
+"""Point 2: returned lists, and the lists in them, are new ones, and no function modifies its arguments."""
+
+import importlib
+import unittest
+
+from tests.support import CHAIN, PLANET, SAMPLES, BoxTest, engaged_sets, full_sets_of, kind_of
+from tests.test_examples import FUNCTIONS
+
+BOXES = (
+    PLANET,
+    CHAIN,
+    SAMPLES["equal devices"],
+    SAMPLES["driven by its gears"],
+    SAMPLES["no full set"],
+    SAMPLES["two planet sets"],
+)
+
+
+def call_table(box):
+    """For each function of a box its name, and the arguments of several calls behind the box."""
+    sets = engaged_sets(box)[:20]
+    full = full_sets_of(box)[:6]
+    driven = [engaged for engaged in sets if kind_of(box, engaged) == "driven"]
+    many = len(box[2])
+    prices = [(0,) * many, tuple(range(many)), tuple(range(many, 0, -1))]
+    zeros = (0,) * (len(box[1]) + many)
+    return {
+        "is_box": [()],
+        "is_engaged": [(engaged,) for engaged in sets],
+        "equation": [(part,) for part in range(len(zeros))],
+        "is_motion": [(engaged, (0,) * box[0]) for engaged in sets],
+        "freedom": [(engaged,) for engaged in sets],
+        "kind": [(engaged,) for engaged in sets],
+        "motion": [(engaged,) for engaged in driven],
+        "two_motions": [(engaged,) for engaged in sets if kind_of(box, engaged) == "loose"],
+        "weighted_sum": [(engaged, zeros) for engaged in sets],
+        "held_weights": [(engaged,) for engaged in engaged_sets(box) if kind_of(box, engaged) == "held"],
+        "shaft_weights": [(engaged, box[0] - 1) for engaged in driven],
+        "needless": [(engaged,) for engaged in sets],
+        "is_full": [(engaged,) for engaged in sets],
+        "full_sets": [()],
+        "roles": [()],
+        "freed_motion": [(engaged, device) for engaged in full for device in engaged],
+        "loads": [(engaged, shaft) for engaged in full for shaft in range(1, box[0])],
+        "swaps": [(engaged,) for engaged in full],
+        "shift": [(first, second) for first in full for second in full],
+        "complete": [(engaged,) for engaged in sets],
+        "thin": [(engaged,) for engaged in driven],
+        "cheapest": [(row,) for row in prices],
+        "cheaper_swap": [(engaged, row) for engaged in full for row in prices],
+        "falling_shift": [(engaged, row) for engaged in full for row in prices],
+        "speed": [(engaged, shaft) for engaged in driven for shaft in range(box[0])],
+        "speeds": [()],
+        "angles": [(engaged, 7) for engaged in driven],
+        "first_return": [(engaged,) for engaged in driven],
+        "reversed_box": [()],
+        "joined": [((2, (), ()),)] if box[0] < 8 else [],
+    }
+
+
+def function_table():
+    """The functions by their names."""
+    return {
+        name: getattr(importlib.import_module(f"planetbox.{file}"), name)
+        for file, names in FUNCTIONS.items()
+        for name in names
+    }
+
+
+def spoil(value):
+    """Change each list in the value."""
+    if isinstance(value, (list, tuple)):
+        for entry in value:
+            spoil(entry)
+    if isinstance(value, list):
+        value.reverse()
+        value.append("spoilt")
+        value[0] = None
+
+
+def lists_in(value):
+    """All lists in the value, itself, too."""
+    found = [value] if isinstance(value, list) else []
+    if isinstance(value, (list, tuple)):
+        for entry in value:
+            found += lists_in(entry)
+    return found
+
+
+class ListsTest(BoxTest):
+    def all_results(self):
+        """The results of all functions for all calls, by the name of the function and the number of the call."""
+        functions = function_table()
+        found = {}
+        for at, box in enumerate(BOXES):
+            for name, calls in call_table(box).items():
+                for number, others in enumerate(calls):
+                    arguments = (box, *others)
+                    before = repr(arguments)
+                    found[name, at, number] = functions[name](*arguments)
+                    self.assertEqual(repr(arguments), before, name)
+        return found
+
+    def test_every_function_is_called(self):
+        called = set()
+        for box in BOXES:
+            called |= {name for name, calls in call_table(box).items() if calls}
+        self.assertEqual(called, set(function_table()))
+
+    def test_changed_lists_change_nothing_else(self):
+        kept = self.all_results()
+        before = {key: repr(value) for key, value in kept.items()}
+        returning = set()
+        for key, value in self.all_results().items():
+            if isinstance(value, list):
+                returning.add(key[0])
+                spoil(value)
+                self.assertEqual(repr(kept[key]), before[key])
+        self.assertEqual(returning, {"full_sets", "roles", "loads", "swaps", "shift", "falling_shift", "speeds"})
+        again = self.all_results()
+        self.assertEqual({key: repr(value) for key, value in again.items()}, before)
+        self.assertEqual({key: repr(value) for key, value in kept.items()}, before)
+
+    def test_no_list_is_returned_twice(self):
+        lists = [one for value in self.all_results().values() for one in lists_in(value)]
+        lists += [one for value in self.all_results().values() for one in lists_in(value)]
+        self.assertEqual(len({id(one) for one in lists}), len(lists))
+        self.assertGreater(len(lists), 100)
+
+    def test_later_calls_change_nothing(self):
+        functions = function_table()
+        for name in ("full_sets", "roles", "speeds"):
+            first = functions[name](PLANET)
+            kept = repr(first)
+            self.all_results()
+            self.assertEqual(repr(first), kept)
+
+
+if __name__ == "__main__":
+    unittest.main()
