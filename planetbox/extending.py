@@ -1,7 +1,7 @@
 """Completing engaged sets to full sets, and thinning driven sets to full sets."""
 
 from planetbox.boxes import released_devices, require_engaged
-from planetbox.full import has_needless, is_known_full
+from planetbox.full import has_needless, is_known_full, with_device
 from planetbox.kinds import known_kind, require_driven
 
 
@@ -18,7 +18,7 @@ def filled_up(box, engaged, devices):
     """
     filled = engaged
     for device in devices:
-        wider = tuple(sorted(filled + (device,)))
+        wider = with_device(filled, device)
         if can_be_part(box, wider):
             filled = wider
     return filled

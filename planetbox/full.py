@@ -13,6 +13,11 @@ def without_device(engaged, device):
     return tuple([other for other in engaged if other != device])
 
 
+def with_device(engaged, device):
+    """Return the engaged set with one more device."""
+    return tuple(sorted(engaged + (device,)))
+
+
 def needless_devices(box, engaged):
     """Return the list of the needless devices of what is known to be an engaged set."""
     free = known_freedom(box, engaged)

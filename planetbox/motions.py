@@ -27,12 +27,17 @@ def known_freedom(box, engaged):
     return box[0] - len(active_leads(box, engaged))
 
 
-def is_motion(box, engaged, value):
-    """Tell whether the value, any value, is a motion of the engaged set."""
-    require_engaged(box, engaged)
+def is_known_motion(box, engaged, value):
+    """Tell whether the value, any value, is a motion of what is known to be an engaged set."""
     if not are_integers(value, box[0]):
         return False
     return all([times(row, value) == 0 for row in active_rows(box, engaged)])
+
+
+def is_motion(box, engaged, value):
+    """Tell whether the value, any value, is a motion of the engaged set."""
+    require_engaged(box, engaged)
+    return is_known_motion(box, engaged, value)
 
 
 def freedom(box, engaged):

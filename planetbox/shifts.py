@@ -1,12 +1,12 @@
 """Swaps in full sets, and shifts made of swaps."""
 
 from planetbox.boxes import released_devices, require_engaged
-from planetbox.full import is_known_full, require_full, without_device
+from planetbox.full import is_known_full, require_full, with_device, without_device
 
 
 def swapped(engaged, off, on):
     """Return the engaged set in which one device is released and another one engaged."""
-    return tuple(sorted(without_device(engaged, off) + (on,)))
+    return with_device(without_device(engaged, off), on)
 
 
 def sets_towards(box, engaged, goal):

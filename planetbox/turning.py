@@ -14,6 +14,13 @@ def require_turns(turns):
         raise InvalidNumber("not a number of turns that is allowed here")
 
 
+def added(first, second):
+    """Return the sum of two fractions."""
+    over, under = first
+    other_over, other_under = second
+    return fraction(over * other_under + other_over * under, under * other_under)
+
+
 def known_angles(box, engaged, turns):
     """Return how far all shafts turn in what is known to be a driven set, after what is known to be turns."""
     return tuple([fraction(turns * over, under) for over, under in speeds_of_shafts(box, engaged)])

@@ -22,6 +22,23 @@ def sum_of_weights(box, weights):
     return tuple([times(weights, [row[shaft] for row in rows]) for shaft in range(box[0])])
 
 
+def are_held_weights(box, engaged, value):
+    """Tell whether the value, any value, is held weights for the engaged set."""
+    if not are_weights(box, engaged, value):
+        return False
+    total = sum_of_weights(box, value)
+    return total[0] != 0 and not any(total[1:])
+
+
+def are_shaft_weights(box, engaged, value, shaft):
+    """Tell whether the value, any value, is shaft weights for the shaft in the engaged set."""
+    if not are_weights(box, engaged, value):
+        return False
+    total = sum_of_weights(box, value)
+    others = [total[other] for other in range(1, box[0]) if other != shaft]
+    return total[shaft] > 0 and not any(others)
+
+
 def row_with_weights(box, part):
     """Return the equation of a part, and behind it the weights that have it as their sum."""
     weights = [0] * count_parts(box)

@@ -4,7 +4,7 @@ import unittest
 from fractions import Fraction
 from functools import lru_cache
 from itertools import combinations, product
-from math import gcd
+from math import gcd, lcm
 
 from planetbox.errors import InvalidBox, InvalidEngaged
 
@@ -139,6 +139,27 @@ ODD_VALUES = (
 )
 
 
+# What is right in no place of a box or a rig.
+NEVER = (None, True, False, "x", "", "0", "mesh ", [], [0], ("x",), (None,), ((),), ((((),),),))
+
+
+def nodes(value, path=()):
+    """All paths into nested tuples and lists, with what stands there."""
+    yield path, value
+    if isinstance(value, (tuple, list)):
+        for at, entry in enumerate(value):
+            yield from nodes(entry, (*path, at))
+
+
+def replaced(value, path, new):
+    """The nested tuples and lists with another value at the end of the path."""
+    if not path:
+        return new
+    entries = list(value)
+    entries[path[0]] = replaced(entries[path[0]], path[1:], new)
+    return type(value)(entries)
+
+
 def numbers(seed):
     """Yield the same numbers for the same seed on every Python."""
     state = seed
@@ -228,6 +249,37 @@ def kind_of(box, engaged):
     if rank(rows + (unit(box, 0),)) == rank(rows):
         return "held"
     return "driven" if rank(rows) == box[0] - 1 else "loose"
+
+
+@lru_cache(maxsize=None)
+def basis_of(box, engaged):
+    """Motions of which all motions are sums of fractions, each without a common divisor."""
+    rows = [[Fraction(entry) for entry in row] for row in rows_of(box, engaged)]
+    columns = []
+    for column in range(box[0]):
+        place = next((at for at, row in enumerate(rows) if at >= len(columns) and row[column]), None)
+        if place is None:
+            continue
+        lead = rows.pop(place)
+        lead = [entry / lead[column] for entry in lead]
+        rows = [[x - row[column] * y for x, y in zip(row, lead)] for row in rows]
+        rows.insert(len(columns), lead)
+        columns.append(column)
+    found = []
+    for free in range(box[0]):
+        if free not in columns:
+            speeds = [Fraction(int(shaft == free)) for shaft in range(box[0])]
+            for at, column in enumerate(columns):
+                speeds[column] = -rows[at][free]
+            scale = lcm(*(speed.denominator for speed in speeds))
+            found.append(tuple(int(speed * scale) for speed in speeds))
+    return tuple(tuple(entry // gcd(*speeds) for entry in speeds) for speeds in found)
+
+
+def speeds_of(box, engaged):
+    """The speeds of all shafts of a driven set for one turn of the input."""
+    (only,) = basis_of(box, engaged)
+    return [Fraction(entry, only[0]) for entry in only]
 
 
 def unit(box, shaft):
@@ -355,9 +407,9 @@ def a_few(values):
     return values[:: max(1, len(values) // 3)]
 
 
-def copied(box):
-    """An equal box that is made anew."""
-    return (box[0], tuple(tuple(list(gear)) for gear in box[1]), tuple(tuple(list(device)) for device in box[2]))
+def copied(value):
+    """An equal value, a box or a rig, say, of which all tuples are made anew."""
+    return tuple([copied(entry) for entry in value]) if isinstance(value, tuple) else value
 
 
 class BoxTest(unittest.TestCase):

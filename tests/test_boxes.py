@@ -5,27 +5,12 @@ from itertools import combinations, permutations, product
 
 from planetbox.boxes import equation, is_box, is_engaged
 from planetbox.errors import InvalidBox, InvalidPart
-from tests.support import ODD_VALUES, PLANET, SAMPLES, WRONG_BOXES, BoxTest, part_count, row_of, wrong_engaged
+from tests.support import NEVER, ODD_VALUES, PLANET, SAMPLES, WRONG_BOXES, BoxTest
+from tests.support import nodes, part_count, replaced, row_of, wrong_engaged
 
 GEARS = (("mesh", 0, 20, 1, 40), ("inner", 2, 15, 1, 60), ("planet", 2, 30, 0, 70, 1))
 DEVICES = (("clutch", 0, 2), ("brake", 1))
 VARIED = (3, GEARS, DEVICES)
-NEVER = (None, True, False, "x", "", "0", "mesh ", [], [0], ("x",), (None,), ((),), ((((),),),))
-
-
-def nodes(value, path=()):
-    """All paths into a nested tuple, with what stands there."""
-    yield path, value
-    if isinstance(value, tuple):
-        for at, entry in enumerate(value):
-            yield from nodes(entry, (*path, at))
-
-
-def replaced(value, path, new):
-    if not path:
-        return new
-    at = path[0]
-    return (*value[:at], replaced(value[at], path[1:], new), *value[at + 1 :])
 
 
 class IsBoxTest(BoxTest):

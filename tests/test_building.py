@@ -166,7 +166,8 @@ class JoinedTest(BoxTest):
 
     def test_boxes_without_gears_or_devices(self):
         self.assertEqual(joined((2, (), ()), (2, (), ())), (3, (), ()))
-        self.assertEqual(joined((2, (), ()), PLANET), (4, (("planet", 1, 30, 2, 70, 3),), (("brake", 2), ("clutch", 1, 3))))
+        moved = (4, (("planet", 1, 30, 2, 70, 3),), (("brake", 2), ("clutch", 1, 3)))
+        self.assertEqual(joined((2, (), ()), PLANET), moved)
         self.assertEqual(joined(PLANET, (2, (), ())), (4, *PLANET[1:]))
         self.assertEqual(joined(bare(2, 1), bare(2, 0, 1)), (3, (("mesh", 0, 20, 1, 40),), (("clutch", 1, 2),)))
         self.assertEqual(joined(bare(2, 0, 1), bare(2, 1)), (3, (("mesh", 1, 20, 2, 40),), (("clutch", 0, 1),)))

@@ -2,6 +2,7 @@
 
 import doctest
 import importlib
+import re
 import unittest
 
 EXAMPLES = """
@@ -152,6 +153,35 @@ True
 >>> from planetbox.building import joined
 >>> joined((2, (('mesh', 0, 20, 1, 40),), ()), (2, (), (('clutch', 0, 1),)))
 (3, (('mesh', 0, 20, 1, 40),), (('clutch', 1, 2),))
+
+>>> from planetbox.workspace import Workspace
+>>> box = (3, (('planet', 0, 30, 1, 70, 2),), (('brake', 1), ('clutch', 0, 2)))
+>>> space = Workspace(box)
+>>> space.engage(0)
+>>> space.turn(5)
+>>> space.swap(0, 1)
+>>> space.turn(1)
+>>> space.angles()
+((6, 1), (1, 1), (5, 2))
+
+>>> from planetbox.checker import check
+>>> box = (3, (('planet', 0, 30, 1, 70, 2),), (('brake', 1), ('clutch', 0, 2)))
+>>> check(('held', box, (0, 1), (1, -70, -100)))
+('right',)
+
+>>> from planetbox.rigs import are_burdens, is_rig, wheel_row
+>>> box = (3, (('planet', 0, 30, 1, 70, 2),), (('brake', 1), ('clutch', 0, 2)))
+>>> rig = (box, (('back', 1), ('over', 0, 1)))
+>>> [is_rig(rig), is_rig((box, (('over', 1, 1),))), wheel_row(rig, 1), are_burdens(rig, (0, 1))]
+[True, False, (1, -1, 0), True]
+
+>>> from planetbox.courses import is_course, is_drift, wheel_values, work
+>>> box = (3, (('planet', 0, 30, 1, 70, 2),), (('brake', 1), ('clutch', 0, 2)))
+>>> rig = (box, (('back', 1), ('over', 0, 1)))
+>>> [is_course(rig, (), (20, 0, 6)), is_course(rig, (1,), (20, 0, 6)), is_drift((box, ()), (), (0, -10, -7))]
+[True, False, True]
+>>> [work(rig, (), (0, 1), (20, 0, 6)), wheel_values(rig, (), (20, 0, 6))]
+[(3, 10), (0, 20)]
 """
 
 FUNCTIONS = {
@@ -167,14 +197,17 @@ FUNCTIONS = {
     "speeds": ["speed", "speeds"],
     "turning": ["angles", "first_return"],
     "building": ["reversed_box", "joined"],
+    "checker": ["check"],
+    "rigs": ["is_rig", "wheel_row", "are_burdens"],
+    "courses": ["is_course", "is_drift", "work", "wheel_values"],
 }
+
+CLASSES = {"workspace": ["Workspace"]}
 
 
 class ExamplesTest(unittest.TestCase):
     def test_each_example(self):
-        blocks = EXAMPLES.strip().split("\n\n")
-        self.assertEqual(len(blocks), sum(len(names) for names in FUNCTIONS.values()))
-        for block in blocks:
+        for block in EXAMPLES.strip().split("\n\n"):
             with self.subTest(block=block):
                 example = doctest.DocTestParser().get_doctest(block + "\n", {}, "example", None, 0)
                 said = []
@@ -183,9 +216,17 @@ class ExamplesTest(unittest.TestCase):
                 self.assertGreater(outcome.attempted, 1)
 
 
+    def test_each_name_has_an_example(self):
+        found = {}
+        for file, names in re.findall(r"from planetbox.(\w+) import (.*)", EXAMPLES):
+            found.setdefault(file, []).extend(names.split(", "))
+        expected = {file: sorted(names) for file, names in (FUNCTIONS | CLASSES).items()}
+        self.assertEqual({file: sorted(names) for file, names in found.items()}, expected)
+
+
 class InterfaceTest(unittest.TestCase):
-    def test_each_function_is_defined_in_its_file(self):
-        for file, names in FUNCTIONS.items():
+    def test_each_name_is_defined_in_its_file(self):
+        for file, names in (FUNCTIONS | CLASSES).items():
             module = importlib.import_module(f"planetbox.{file}")
             for name in names:
                 self.assertEqual(getattr(module, name).__module__, f"planetbox.{file}", name)

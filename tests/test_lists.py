@@ -3,7 +3,9 @@
 import importlib
 import unittest
 
+from tests.rig_support import is_course_of, made_wheels, some_burdens, some_motions
 from tests.support import CHAIN, PLANET, SAMPLES, BoxTest, engaged_sets, full_sets_of, kind_of
+from tests.test_checker import own_certificate
 from tests.test_examples import FUNCTIONS
 
 BOXES = (
@@ -16,7 +18,7 @@ BOXES = (
 )
 
 
-def call_table(box):
+def box_calls(box):
     """For each function of a box its name, and the arguments of several calls behind the box."""
     sets = engaged_sets(box)[:20]
     full = full_sets_of(box)[:6]
@@ -58,6 +60,34 @@ def call_table(box):
     }
 
 
+def rig_calls(rig):
+    """For each function of a rig its name, and the arguments of several calls behind the rig."""
+    box = rig[0]
+    sets = engaged_sets(box)[:20]
+    motions = [(engaged, speeds) for engaged in sets for speeds in some_motions(box, engaged)[::9]]
+    courses = [(engaged, speeds) for engaged, speeds in motions if is_course_of(rig, engaged, speeds)]
+    burdens = some_burdens(rig)
+    return {
+        "wheel_row": [(wheel,) for wheel in range(len(rig[1]))],
+        "are_burdens": [(row,) for row in burdens],
+        "is_course": motions,
+        "is_drift": motions,
+        "wheel_values": courses,
+        "work": [(engaged, row, course) for engaged, course in courses for row in burdens],
+    }
+
+
+def call_table(box):
+    """For each function its name, and all arguments of several calls."""
+    found = {name: [(box, *others) for others in calls] for name, calls in box_calls(box).items()}
+    rig = (box, made_wheels(box, 3, 3))
+    found |= {name: [(rig, *others) for others in calls] for name, calls in rig_calls(rig).items()}
+    found["is_rig"] = [(rig,)]
+    found["check"] = [(own_certificate(box, engaged),) for engaged in engaged_sets(box)[:20]]
+    found["check"] += [(("shift", box, full_sets_of(box)[:2]),), (("shift", box, [[], [()]]),)]
+    return found
+
+
 def function_table():
     """The functions by their names."""
     return {
@@ -94,8 +124,7 @@ class ListsTest(BoxTest):
         found = {}
         for at, box in enumerate(BOXES):
             for name, calls in call_table(box).items():
-                for number, others in enumerate(calls):
-                    arguments = (box, *others)
+                for number, arguments in enumerate(calls):
                     before = repr(arguments)
                     found[name, at, number] = functions[name](*arguments)
                     self.assertEqual(repr(arguments), before, name)

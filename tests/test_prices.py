@@ -10,7 +10,7 @@ from tests.support import full_cases, full_sets_of, is_swap, needless_of, not_fu
 from tests.support import engaged_sets, kind_of, wrong_engaged, wrong_rows
 
 WHEEL = (5, (), tuple(("clutch", 0, shaft) for shaft in range(1, 5)) + tuple(("brake", k) for k in range(1, 5)))
-PAIRS = (3, (), (("clutch", 0, 1), ("clutch", 0, 1), ("clutch", 0, 2), ("clutch", 0, 2), ("clutch", 1, 2), ("brake", 1)))
+PAIRS = (3, (), (("clutch", 0, 1),) * 2 + (("clutch", 0, 2),) * 2 + (("clutch", 1, 2), ("brake", 1)))
 BOXES = (*SAMPLES.values(), WHEEL, PAIRS)
 
 

@@ -15,10 +15,15 @@ STAR = (
     (("mesh", 0, 20, 1, 30), ("mesh", 0, 30, 2, 20), ("inner", 0, 60, 3, 6), ("inner", 0, 6, 4, 60)),
     tuple(("clutch", k, 7) for k in range(5)) + (("brake", 7), ("clutch", 5, 6), ("brake", 6)),
 )
-SHARED = (3, (), (("clutch", 0, 1), ("clutch", 1, 2), ("brake", 1), ("brake", 2), ("clutch", 0, 2)) + (("brake", 1),) * 3)
+SHARED = (
+    3,
+    (),
+    (("clutch", 0, 1), ("clutch", 1, 2), ("brake", 1), ("brake", 2), ("clutch", 0, 2)) + (("brake", 1),) * 3,
+)
 MANY_SPEEDS = (
     8,
-    (("planet", 0, 197, 1, 199, 2), ("planet", 2, 191, 3, 193, 4), ("planet", 4, 179, 5, 181, 6), ("mesh", 6, 30, 7, 40)),
+    (("planet", 0, 197, 1, 199, 2), ("planet", 2, 191, 3, 193, 4))
+    + (("planet", 4, 179, 5, 181, 6), ("mesh", 6, 30, 7, 40)),
     (("brake", 1), ("brake", 3), ("brake", 5), ("clutch", 0, 1))
     + (("clutch", 2, 3), ("clutch", 4, 5), ("clutch", 1, 5), ("clutch", 3, 6)),
 )
