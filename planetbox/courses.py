@@ -1,7 +1,7 @@
 """Courses and drifts of an engaged set of a rig."""
 
 from planetbox.motions import is_known_motion
-from planetbox.rigs import require_burdens, require_rig_and_engaged, wheel_rows
+from planetbox.rigs import require_loaded, require_rig_and_engaged, wheel_rows
 from planetbox.rows import times
 from planetbox.speeds import fraction
 from planetbox.wrongs import InvalidCourse
@@ -24,6 +24,11 @@ def is_known_course(rig, engaged, value):
     return is_let(rig, engaged, value) and value[0] > 0
 
 
+def is_known_drift(rig, engaged, value):
+    """Tell whether the value, any value, is a drift of what is known to be an engaged set."""
+    return is_let(rig, engaged, value) and value[0] == 0
+
+
 def require_course(rig, engaged, course):
     """Raise InvalidCourse if the argument is not a course of what is known to be an engaged set."""
     if not is_known_course(rig, engaged, course):
@@ -35,6 +40,11 @@ def load(burdens, speeds):
     return times(burdens, speeds[1:])
 
 
+def known_work(burdens, course):
+    """Return the work of what is known to be a course, a fraction."""
+    return fraction(load(burdens, course), course[0])
+
+
 def is_course(rig, engaged, value):
     """Tell whether the value, any value, is a course of the engaged set."""
     require_rig_and_engaged(rig, engaged)
@@ -44,15 +54,14 @@ def is_course(rig, engaged, value):
 def is_drift(rig, engaged, value):
     """Tell whether the value, any value, is a drift of the engaged set."""
     require_rig_and_engaged(rig, engaged)
-    return is_let(rig, engaged, value) and value[0] == 0
+    return is_known_drift(rig, engaged, value)
 
 
 def work(rig, engaged, burdens, course):
     """Return the work of a course, a fraction."""
-    require_rig_and_engaged(rig, engaged)
-    require_burdens(rig, burdens)
+    require_loaded(rig, engaged, burdens)
     require_course(rig, engaged, course)
-    return fraction(load(burdens, course), course[0])
+    return known_work(burdens, course)
 
 
 def wheel_values(rig, engaged, course):

@@ -53,11 +53,16 @@ def wheel_rows(rig):
     return [known_wheel_row(rig, number) for number in range(len(rig[1]))]
 
 
+def require_wheel(rig, wheel):
+    """Raise InvalidWheel if the argument is not the number of a freewheel of what is known to be a rig."""
+    if not is_number_of(wheel, len(rig[1])):
+        raise InvalidWheel(wheel)
+
+
 def wheel_row(rig, wheel):
     """Return the coefficients of all shafts in the value of the freewheel with this number."""
     require_rig(rig)
-    if not is_number_of(wheel, len(rig[1])):
-        raise InvalidWheel(wheel)
+    require_wheel(rig, wheel)
     return known_wheel_row(rig, wheel)
 
 
@@ -70,6 +75,12 @@ def require_burdens(rig, burdens):
     """Raise InvalidBurdens if the argument is not burdens of what is known to be a rig."""
     if not are_known_burdens(rig, burdens):
         raise InvalidBurdens("not burdens of the rig")
+
+
+def require_loaded(rig, engaged, burdens):
+    """Raise an error if the arguments are not a rig, an engaged set of it and burdens of it."""
+    require_rig_and_engaged(rig, engaged)
+    require_burdens(rig, burdens)
 
 
 def are_burdens(rig, value):

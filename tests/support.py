@@ -254,21 +254,27 @@ def kind_of(box, engaged):
 @lru_cache(maxsize=None)
 def basis_of(box, engaged):
     """Motions of which all motions are sums of fractions, each without a common divisor."""
-    rows = [[Fraction(entry) for entry in row] for row in rows_of(box, engaged)]
+    return null_of(rows_of(box, engaged), box[0])
+
+
+@lru_cache(maxsize=None)
+def null_of(rows, width):
+    """Integers that make all rows 0, each without a common divisor, of which all others are sums of fractions."""
+    rows = [[Fraction(entry) for entry in row] for row in rows]
     columns = []
-    for column in range(box[0]):
+    for column in range(width):
         place = next((at for at, row in enumerate(rows) if at >= len(columns) and row[column]), None)
         if place is None:
             continue
         lead = rows.pop(place)
         lead = [entry / lead[column] for entry in lead]
-        rows = [[x - row[column] * y for x, y in zip(row, lead)] for row in rows]
+        rows = [[x - row[column] * y for x, y in zip(row, lead)] if row[column] else row for row in rows]
         rows.insert(len(columns), lead)
         columns.append(column)
     found = []
-    for free in range(box[0]):
+    for free in range(width):
         if free not in columns:
-            speeds = [Fraction(int(shaft == free)) for shaft in range(box[0])]
+            speeds = [Fraction(int(shaft == free)) for shaft in range(width)]
             for at, column in enumerate(columns):
                 speeds[column] = -rows[at][free]
             scale = lcm(*(speed.denominator for speed in speeds))
@@ -478,7 +484,7 @@ class BoxTest(unittest.TestCase):
         """Check that equal arguments give the same result, whatever is called in between."""
         first = [function(*arguments) for arguments in calls]
         kept = repr(first)
-        again = [function(copied(box), *others) for box, *others in reversed(calls)]
+        again = [function(*map(copied, arguments)) for arguments in reversed(calls)]
         self.assertEqual(repr(again[::-1]), kept)
         self.assertEqual(repr(first), kept)
 

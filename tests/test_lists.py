@@ -3,7 +3,9 @@
 import importlib
 import unittest
 
-from tests.rig_support import is_course_of, made_wheels, some_burdens, some_motions
+from planetbox.states import bars_of, carry_of
+from tests.load_support import let_wheels, spread, state_in
+from tests.rig_support import is_course_of, some_burdens, some_motions
 from tests.support import CHAIN, PLANET, SAMPLES, BoxTest, engaged_sets, full_sets_of, kind_of
 from tests.test_checker import own_certificate
 from tests.test_examples import FUNCTIONS
@@ -77,11 +79,34 @@ def rig_calls(rig):
     }
 
 
+def loaded_calls(rig):
+    """The same for each function of a rig, an engaged set and burdens."""
+    sets = engaged_sets(rig[0])[:20]
+    own = [(engaged, row) for engaged in sets for row in some_burdens(rig)]
+    carried = spread([case for case in own if state_in(rig, *case) == "carried"], 40)
+    torques = [(*case, carry_of(rig, *case)[1]) for case in carried]
+    bars = [(engaged, bars_of(rig, engaged)) for engaged in sets]
+    found = {"bars_of": [(engaged,) for engaged in sets], "are_right": torques}
+    found["are_bars"] = [case for case in bars if case[1] is not None]
+    for name in ("torque_sum", "pull"):
+        found[name] = [(engaged, value) for engaged, _, value in torques]
+    for name in ("state_of", "slip_of", "carry_of", "least_work"):
+        found[name] = own
+    for name in ("firm_wheels", "parted_pair", "locked_box", "only_course"):
+        found[name] = carried
+    for name in ("firm_torques", "slack_course"):
+        found[name] = [(*case, wheel) for case in carried for wheel in range(len(rig[1]))]
+    for name in ("is_settled", "settling_weights", "two_courses"):
+        found[name] = [(*case, shaft) for case in carried for shaft in range(1, rig[0][0])]
+    return found
+
+
 def call_table(box):
     """For each function its name, and all arguments of several calls."""
     found = {name: [(box, *others) for others in calls] for name, calls in box_calls(box).items()}
-    rig = (box, made_wheels(box, 3, 3))
-    found |= {name: [(rig, *others) for others in calls] for name, calls in rig_calls(rig).items()}
+    rig = (box, let_wheels(box, (), 3, 3))
+    rig_table = rig_calls(rig) | loaded_calls(rig)
+    found |= {name: [(rig, *others) for others in calls] for name, calls in rig_table.items()}
     found["is_rig"] = [(rig,)]
     found["check"] = [(own_certificate(box, engaged),) for engaged in engaged_sets(box)[:20]]
     found["check"] += [(("shift", box, full_sets_of(box)[:2]),), (("shift", box, [[], [()]]),)]
