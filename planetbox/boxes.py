@@ -1,5 +1,7 @@
 """Boxes, their engaged sets, and the equations of their parts."""
 
+from itertools import combinations
+
 from planetbox.errors import InvalidBox, InvalidEngaged, InvalidPart, InvalidShaft
 
 FEWEST_SHAFTS = 2
@@ -127,6 +129,12 @@ def require_other_shaft(box, shaft):
 def released_devices(box, engaged):
     """Return the ascending list of the devices that are not engaged."""
     return [device for device in range(len(box[2])) if device not in engaged]
+
+
+def all_engaged_sets(box):
+    """Return the list of all engaged sets of the box, the smaller ones first."""
+    devices = list(range(len(box[2])))
+    return [choice for size in range(len(devices) + 1) for choice in combinations(devices, size)]
 
 
 def count_parts(box):

@@ -11,6 +11,20 @@ from planetbox.prices import are_prices, cheaper_swaps
 from planetbox.weights import are_held_weights, are_shaft_weights
 
 
+def has_form(value, entries):
+    """Tell whether the value, any value, is a tuple that begins with a word and has as many entries as it asks for."""
+    if not isinstance(value, tuple) or len(value) == 0 or not isinstance(value[0], str):
+        return False
+    return value[0] in entries and len(value) == entries[value[0]]
+
+
+def verdict(fault):
+    """Return ("right",), or ("wrong", k) if the condition with the number k is the first one that does not hold."""
+    if fault is None:
+        return ("right",)
+    return ("wrong", fault)
+
+
 def held_fault(box, engaged, weights):
     """Look at a certificate that a set is held."""
     if not is_engaged(box, engaged):
@@ -104,21 +118,11 @@ FAULTS = {
 }
 
 
-def is_certificate(value):
-    """Tell whether the value, any value, begins like a certificate and has as many entries."""
-    if not isinstance(value, tuple) or len(value) == 0 or not isinstance(value[0], str):
-        return False
-    return value[0] in ENTRIES and len(value) == ENTRIES[value[0]]
-
-
 def check(certificate):
     """Return ("right",), or ("wrong", k) with the number of the first condition that does not hold."""
-    if not is_certificate(certificate):
+    if not has_form(certificate, dict(ENTRIES)):
         raise NotACertificate("not a certificate")
     require_box(certificate[1])
     first_fault = FAULTS[certificate[0]]
     entries = certificate[1:]
-    fault = first_fault(*entries)
-    if fault is None:
-        return ("right",)
-    return ("wrong", fault)
+    return verdict(first_fault(*entries))

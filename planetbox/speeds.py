@@ -2,7 +2,7 @@
 
 from math import gcd, lcm
 
-from planetbox.boxes import is_number_of, require_box, require_engaged
+from planetbox.boxes import are_integers, is_number_of, require_box, require_engaged
 from planetbox.errors import InvalidShaft
 from planetbox.full import known_full_sets
 from planetbox.kinds import known_motion, require_driven
@@ -12,6 +12,16 @@ def fraction(over, under):
     """Return the fraction of two integers, the second one positive, without a common divisor."""
     divisor = gcd(over, under)
     return over // divisor, under // divisor
+
+
+def is_fraction(value):
+    """Tell whether the value, any value, is a fraction."""
+    return are_integers(value, 2) and value[1] > 0 and gcd(value[0], value[1]) == 1
+
+
+def is_at_least(first, second):
+    """Tell whether the first fraction is not less than the second one."""
+    return first[0] * second[1] >= second[0] * first[1]
 
 
 def speeds_of_shafts(box, engaged):

@@ -21,6 +21,50 @@ def require_not_held(box, engaged):
         raise WouldHold("the box would be held")
 
 
+def require_device(box, device):
+    """Raise InvalidDevice if the argument, any value, is not the number of a device of the box."""
+    if not is_number_of(device, len(box[2])):
+        raise InvalidDevice(device)
+
+
+def require_is_released(engaged, device):
+    """Raise IsEngaged if a device is engaged."""
+    if device in engaged:
+        raise IsEngaged(device)
+
+
+def require_is_engaged(engaged, device):
+    """Raise IsReleased if a device is not engaged."""
+    if device not in engaged:
+        raise IsReleased(device)
+
+
+def set_with(box, engaged, device):
+    """Return the engaged set with one more device, or raise an error if there is no such released device."""
+    require_device(box, device)
+    require_is_released(engaged, device)
+    return with_device(engaged, device)
+
+
+def set_without(box, engaged, device):
+    """Return the engaged set without one of its devices, or raise an error if there is no such engaged device."""
+    require_device(box, device)
+    require_is_engaged(engaged, device)
+    return without_device(engaged, device)
+
+
+def require_room(marks):
+    """Raise Full if there are as many marks as there may be."""
+    if len(marks) == MOST_MARKS:
+        raise Full(MOST_MARKS)
+
+
+def require_mark(marks, number):
+    """Raise InvalidMark if the argument, any value, is not the number of a mark."""
+    if not is_number_of(number, len(marks)):
+        raise InvalidMark(number)
+
+
 class Workspace:
     """A workspace of a box. Each method changes it only behind all that may raise an error."""
 
@@ -32,38 +76,22 @@ class Workspace:
         self._angles = ((0, 1),) * box[0]
         self._marks = []
 
-    def _require_device(self, device):
-        if not is_number_of(device, len(self._box[2])):
-            raise InvalidDevice(device)
-
-    def _require_is_released(self, device):
-        if device in self._engaged:
-            raise IsEngaged(device)
-
-    def _require_is_engaged(self, device):
-        if device not in self._engaged:
-            raise IsReleased(device)
-
     def engage(self, device):
         """Engage a device."""
-        self._require_device(device)
-        self._require_is_released(device)
-        wider = with_device(self._engaged, device)
+        wider = set_with(self._box, self._engaged, device)
         require_not_held(self._box, wider)
         self._engaged = wider
 
     def release(self, device):
         """Release a device."""
-        self._require_device(device)
-        self._require_is_engaged(device)
-        self._engaged = without_device(self._engaged, device)
+        self._engaged = set_without(self._box, self._engaged, device)
 
     def swap(self, off, on):
         """Release the first device and engage the second one at once."""
-        self._require_device(off)
-        self._require_device(on)
-        self._require_is_engaged(off)
-        self._require_is_released(on)
+        require_device(self._box, off)
+        require_device(self._box, on)
+        require_is_engaged(self._engaged, off)
+        require_is_released(self._engaged, on)
         other = swapped(self._engaged, off, on)
         require_not_held(self._box, other)
         self._engaged = other
@@ -77,16 +105,13 @@ class Workspace:
 
     def mark(self):
         """Make a mark and return its number."""
-        number = len(self._marks)
-        if number == MOST_MARKS:
-            raise Full(MOST_MARKS)
+        require_room(self._marks)
         self._marks.append((self._engaged, self._angles))
-        return number
+        return len(self._marks) - 1
 
     def back(self, number):
         """Return to a mark, which removes all later ones."""
-        if not is_number_of(number, len(self._marks)):
-            raise InvalidMark(number)
+        require_mark(self._marks, number)
         self._engaged, self._angles = self._marks[number]
         self._marks = self._marks[:number + 1]
 

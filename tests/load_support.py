@@ -10,10 +10,10 @@ from math import gcd
 
 from planetbox.errors import InvalidEngaged, InvalidShaft
 from planetbox.wrongs import InvalidBurdens, InvalidRig, InvalidWheel, NotCarried
-from tests.rig_support import LEVER, RIG, RIGS, WRONG_RIGS, is_course_of, is_drift_of, made_wheels, row_of_wheel
+from tests.rig_support import LEVER, RIGS, WRONG_RIGS, is_course_of, is_drift_of, made_wheels, row_of_wheel
 from tests.rig_support import values_of
-from tests.support import CHAIN, ODD_VALUES, PLANET, SAMPLES, BoxTest, basis_of, dot, engaged_sets, null_of, numbers
-from tests.support import a_few, part_count, rows_of, sum_of, unit, wrong_engaged, wrong_rows, wrong_shafts
+from tests.support import CHAIN, NEVER, ODD_VALUES, PLANET, SAMPLES, BoxTest, a_few, basis_of, dot, engaged_sets
+from tests.support import null_of, numbers, part_count, rows_of, sum_of, unit, wrong_engaged, wrong_rows, wrong_shafts
 
 MESHED = (3, (("mesh", 0, 20, 1, 20),), (("brake", 1), ("clutch", 1, 2), ("brake", 2)))
 ONE_WAY = (PLANET, (("back", 1),))
@@ -91,7 +91,8 @@ BENT = [
         1,
     ),
 ]
-LOADED = [*RIGS, *(rig for rig, _, _ in BENT), ONE_WAY, FORWARDS, OPPOSED, FOUR, (MESHED, ()), (MESHED, made_wheels(MESHED, 5, 2)), *let_rigs()]
+LOADED = [*RIGS, *(rig for rig, _, _ in BENT), ONE_WAY, FORWARDS, OPPOSED, FOUR]
+LOADED += [(MESHED, ()), (MESHED, made_wheels(MESHED, 5, 2)), *let_rigs()]
 
 
 def spread(values, many):
@@ -331,6 +332,38 @@ def wrong_wheels(rig):
 
 def wrong_burdens(rig):
     return wrong_rows(rig[0][0] - 1, -100, 100)
+
+
+# Values that are not fractions.
+WRONG_FRACTIONS = (
+    *ODD_VALUES,
+    *NEVER,
+    (2, 4),
+    (-2, 4),
+    (0, 2),
+    (0, 0),
+    (0, -1),
+    (1, 0),
+    (1, -1),
+    (3, -10),
+    (10**30, 10**31),
+    (True, 1),
+    (1, True),
+    (False, 1),
+    (1, None),
+    (None, 1),
+    ("1", 2),
+    (1, "2"),
+    (1,),
+    (1, 2, 3),
+    (1, 2, 1),
+    [1, 2],
+    ((1, 2),),
+    ((1,), 2),
+    1,
+    0,
+    "1/2",
+)
 
 
 def of_tuples(value):

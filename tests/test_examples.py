@@ -213,6 +213,44 @@ True
 [True, False, (10, 0, 3)]
 >>> locked_box(rig, (), (0, 1))
 (3, (('planet', 0, 30, 1, 70, 2),), (('brake', 1),))
+
+>>> from planetbox.sure import cheapest_sure, sure_speed
+>>> box = (3, (('planet', 0, 30, 1, 70, 2),), (('brake', 1), ('clutch', 0, 2)))
+>>> rig = (box, (('back', 1),))
+>>> [sure_speed(rig, (), 2), cheapest_sure(rig, 2, (1, 2), (5, 3)), cheapest_sure(rig, 2, (3, 1), (5, 3))]
+[(3, 10), (1,), None]
+
+>>> from planetbox.rising import pieces, work_at
+>>> box = (3, (('planet', 0, 30, 1, 70, 2),), (('brake', 1), ('clutch', 0, 2)))
+>>> rig = (box, (('back', 1), ('over', 0, 1)))
+>>> [(first, last) for first, last, course in pieces(rig, (), (0, 1), 1)]
+[((-100, 1), (-7, 10)), ((-7, 10), (100, 1))]
+>>> work_at(rig, (), (0, 1), 1, (-1, 1))
+(0, 1)
+
+>>> from planetbox.stand import Stand
+>>> stand = Stand((3, (('planet', 0, 30, 1, 70, 2),), (('brake', 1), ('clutch', 0, 2))))
+>>> stand.lay(2, 1)
+>>> [stand.state(), stand.add_wheel(('back', 1)), stand.state(), stand.firm()]
+['slipping', 0, 'carried', (0,)]
+>>> stand.turn(10)
+>>> stand.engage(1)
+>>> stand.turn(1)
+>>> [stand.angles(), stand.firm(), stand.leads(), stand.spent()]
+[((11, 1), (1, 1), (4, 1)), (), ((1, 1),), (4, 1)]
+
+>>> from planetbox.shifting import load_shift, reached_sets
+>>> box = (3, (('planet', 0, 30, 1, 70, 2),), (('brake', 1), ('clutch', 0, 2)))
+>>> rig = (box, (('back', 1),))
+>>> [load_shift(rig, (0, 1), (0,), (1,)), reached_sets(rig, (0, 1), (1,)), load_shift((box, ()), (0, 1), (0,), (1,))]
+[[(0,), (), (1,)], [(), (0,), (1,)], None]
+
+>>> from planetbox.records import judge
+>>> box = (3, (('planet', 0, 30, 1, 70, 2),), (('brake', 1), ('clutch', 0, 2)))
+>>> rig = (box, (('back', 1),))
+>>> own = (100, (-1, 0, 0), (70,))
+>>> [judge(('carried', rig, (), (0, 1), (10, 0, 3), own)), judge(('carried', rig, (1,), (0, 1), (1, 1, 1), own))]
+[('right',), ('wrong', 4)]
 """
 
 FUNCTIONS = {
@@ -235,9 +273,13 @@ FUNCTIONS = {
     "states": ["state_of", "bars_of", "slip_of", "carry_of", "least_work"],
     "firm": ["firm_wheels", "firm_torques", "slack_course", "parted_pair"],
     "settled": ["is_settled", "settling_weights", "two_courses", "locked_box", "only_course"],
+    "sure": ["sure_speed", "cheapest_sure"],
+    "rising": ["pieces", "work_at"],
+    "shifting": ["load_shift", "reached_sets"],
+    "records": ["judge"],
 }
 
-CLASSES = {"workspace": ["Workspace"]}
+CLASSES = {"workspace": ["Workspace"], "stand": ["Stand"]}
 
 # The document has no examples of these.
 WITHOUT_EXAMPLE = {"slip_of", "carry_of", "slack_course", "parted_pair", "settling_weights", "two_courses"}

@@ -98,6 +98,32 @@ def loaded_calls(rig):
         found[name] = [(*case, wheel) for case in carried for wheel in range(len(rig[1]))]
     for name in ("is_settled", "settling_weights", "two_courses"):
         found[name] = [(*case, shaft) for case in carried for shaft in range(1, rig[0][0])]
+    found["work_at"] = [(*case, 1, (case[1][0], 1)) for case in carried]
+    return found | later_calls(rig, own, carried)
+
+
+def later_calls(rig, own, carried):
+    """The same for the functions of stages 20 to 24, by the sets and burdens of the rig and those that are carried."""
+    shafts, many = range(1, rig[0][0]), len(rig[0][2])
+    sets = sorted({engaged for engaged, _ in own})
+    found = {"sure_speed": [(engaged, shaft) for engaged in sets for shaft in shafts]}
+    found["cheapest_sure"] = [(1, speed, prices) for speed in ((0, 1), (1, 2)) for prices in ((0,) * many, (7,) * many)]
+    found["pieces"] = [(*case, shaft) for case in spread(own, 30) for shaft in shafts]
+    by_burdens = {}
+    for engaged, row in carried:
+        by_burdens.setdefault(row, []).append(engaged)
+    found["reached_sets"] = [(row, one) for row, some in by_burdens.items() for one in some[:2]]
+    pairs = [(row, one, other) for row, some in by_burdens.items() for one in some[:2] for other in some[-2:]]
+    return found | {"load_shift": pairs}
+
+
+def some_records(rig):
+    """Some records of the rig, right and wrong ones, with lists in them, too."""
+    sets = engaged_sets(rig[0])[:20]
+    found = [("barred", rig, engaged, bars_of(rig, engaged)) for engaged in sets]
+    for engaged in sets:
+        for row in some_burdens(rig)[:3]:
+            found.append(("carried", rig, engaged, row, *(carry_of(rig, engaged, row) or ([[1]], [1, [2], ()]))))
     return found
 
 
@@ -108,6 +134,7 @@ def call_table(box):
     rig_table = rig_calls(rig) | loaded_calls(rig)
     found |= {name: [(rig, *others) for others in calls] for name, calls in rig_table.items()}
     found["is_rig"] = [(rig,)]
+    found["judge"] = [(record,) for record in some_records(rig)]
     found["check"] = [(own_certificate(box, engaged),) for engaged in engaged_sets(box)[:20]]
     found["check"] += [(("shift", box, full_sets_of(box)[:2]),), (("shift", box, [[], [()]]),)]
     return found
@@ -170,7 +197,8 @@ class ListsTest(BoxTest):
                 returning.add(key[0])
                 spoil(value)
                 self.assertEqual(repr(kept[key]), before[key])
-        self.assertEqual(returning, {"full_sets", "roles", "loads", "swaps", "shift", "falling_shift", "speeds"})
+        expected = {"full_sets", "roles", "loads", "swaps", "shift", "falling_shift", "speeds"}
+        self.assertEqual(returning, expected | {"pieces", "load_shift", "reached_sets"})
         again = self.all_results()
         self.assertEqual({key: repr(value) for key, value in again.items()}, before)
         self.assertEqual({key: repr(value) for key, value in kept.items()}, before)

@@ -7,12 +7,11 @@ from math import gcd
 from planetbox.boxes import is_box
 from planetbox.courses import is_course, work
 from planetbox.errors import InvalidEngaged, InvalidShaft
-from planetbox.firm import firm_wheels
 from planetbox.kinds import kind, motion
 from planetbox.settled import is_settled, locked_box, only_course, settling_weights, two_courses
 from planetbox.states import least_work
 from planetbox.wrongs import InvalidBurdens
-from tests.load_support import BENT, EIGHT, ONE_WAY, OPPOSED, SLIPS, LoadTest, are_settling_of, cases_of, corners_of
+from tests.load_support import BENT, EIGHT, OPPOSED, SLIPS, LoadTest, are_settling_of, cases_of, corners_of
 from tests.load_support import drifts_of, firm_in, is_settled_in, least_in, load_cases, of_tuples, plus, ratios_in
 from tests.load_support import shafts_of, spread, state_in, work_of, wrong_burdens
 from tests.rig_support import RIG, some_burdens
